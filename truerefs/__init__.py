@@ -1,0 +1,1 @@
+"""References set again till they're true."""
