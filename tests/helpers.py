@@ -23,6 +23,22 @@ def settles():
     return [3, 0, 0]
 
 
+def lines(n):
+    return [4, 1, n, 0]
+
+
+def shown(n):
+    return [5, 1, n, 0]
+
+
+def trues():
+    return [6, 0, 0]
+
+
+def open_():
+    return [7, 0, 0]
+
+
 def plain(length, own=0):
     return (0, length, own)
 
@@ -82,25 +98,40 @@ def text_of(frame, word, own_page, mark_page):
     return "b" * before + str(mark_page)
 
 
-def set_once(frame, paragraphs, setting):
-    """One pass, with a book kept as pages of lines of texts."""
-    wide, high, first_page = frame[:3]
+def texts_of(frame, paragraphs, setting):
+    """Each word's text in a setting."""
     words = [word for begins_page, words in paragraphs for word in words]
     where = {word[2]: number for number, word in enumerate(words) if word[2]}
-    lines = []
-    pages = []
-    for begins_page, paragraph in paragraphs:
-        while begins_page and len(lines) % high:
-            lines.append("")
-        for k, word in enumerate(paragraph):
-            mark_page = setting[where[word[1]]] if word[0] and word[1] in where else 0
-            text = text_of(frame, word, setting[len(pages)], mark_page)
-            if k and len(lines[-1] + " " + text) <= wide:
-                lines[-1] += " " + text
+    texts = []
+    for number, word in enumerate(words):
+        mark_page = setting[where[word[1]]] if word[0] and word[1] in where else 0
+        texts.append(text_of(frame, word, setting[number], mark_page))
+    return texts
+
+
+def lines_by_texts(frame, paragraphs, setting):
+    """The book's lines from the first on, those without words too, each a list of its words' numbers."""
+    wide, high = frame[:2]
+    texts = texts_of(frame, paragraphs, setting)
+    found = []
+    number = 0
+    for begins_page, words in paragraphs:
+        while begins_page and len(found) % high:
+            found.append([])
+        for k in range(len(words)):
+            if k and len(" ".join([texts[other] for other in found[-1]] + [texts[number]])) <= wide:
+                found[-1].append(number)
             else:
-                lines.append(text)
-            pages.append(first_page + (len(lines) - 1) // high)
-    return pages
+                found.append([number])
+            number += 1
+    return found
+
+
+def set_once(frame, paragraphs, setting):
+    """One pass, with a book kept as lines of texts."""
+    high, first_page = frame[1:3]
+    return [first_page + line // high for line, numbers in enumerate(lines_by_texts(frame, paragraphs, setting))
+            for number in numbers]
 
 
 def settings_by_texts(frame, paragraphs, n):
@@ -109,6 +140,11 @@ def settings_by_texts(frame, paragraphs, n):
     while len(settings) <= n:
         settings.append(set_once(frame, paragraphs, settings[-1]))
     return settings
+
+
+def book_of(frame, paragraphs):
+    """The calls that make this book."""
+    return [begins(*frame)] + [para(begins_page, *words) for begins_page, words in paragraphs]
 
 
 def random_book(rng):

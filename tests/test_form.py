@@ -144,6 +144,15 @@ class Language(unittest.TestCase):
                 self.assertNotIn(name, dir(builtins), where)
                 self.assertNotIn(name, NOWHERE, where)
 
+    def test_nothing_is_called_like_an_import_or_a_class_of_its_file(self):
+        for path, text in sources().items():
+            walked = list(ast.walk(ast.parse(text)))
+            taken = [name.name for node in walked if isinstance(node, ast.ImportFrom) for name in node.names]
+            taken += [node.name for node in walked if isinstance(node, ast.ClassDef)]
+            local = [node.arg for node in walked if isinstance(node, ast.arg)]
+            local += [node.id for node in walked if isinstance(node, ast.Name) and isinstance(node.ctx, ast.Store)]
+            self.assertEqual(set(taken) & set(local), set(), path)
+
     def test_names_of_pythons_own(self):
         for where, node in nodes(ast.Name):
             if node.id in dir(builtins):

@@ -1,11 +1,11 @@
 import random
 import unittest
 
-from tests.helpers import (HUGE, begins, digits, how_far, last, para, pass_, plain, random_book, roman, roman_text,
-                           settings_by_texts)
-from truerefs.book import Word
+from tests.helpers import (HUGE, begins, book_of, digits, how_far, last, para, pass_, plain, random_book, roman,
+                           roman_text, settings_by_texts)
 from truerefs.frame import Frame
 from truerefs.lengths import word_lengths
+from truerefs.words import Word
 
 
 def fits(reference, length, n, first_page=1, marked="", wide=60, lengths=(4, 16, 5)):
@@ -241,7 +241,7 @@ class AgainstRealTexts(unittest.TestCase):
         rng = random.Random(20)
         for number in range(400):
             frame, paragraphs = random_book(rng)
-            calls = [begins(*frame)] + [para(begins_page, *words) for begins_page, words in paragraphs]
+            calls = book_of(frame, paragraphs)
             settings = settings_by_texts(frame, paragraphs, 40)
             for n in (0, 1, 2, 3, 4, 7, 40):
                 with self.subTest(number=number, n=n):

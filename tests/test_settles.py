@@ -1,7 +1,8 @@
 import random
 import unittest
+from unittest import mock
 
-from tests.helpers import (ask, begins, digits, how_far, last, para, pass_, plain, random_book, roman, settles,
+from tests.helpers import (ask, begins, book_of, digits, how_far, last, para, pass_, plain, random_book, roman, settles,
                            settings_by_texts)
 
 WIDE = 60
@@ -99,6 +100,13 @@ class Within400Passes(unittest.TestCase):
     def test_one_that_would_come_again_behind_the_401st(self):
         self.assertEqual(last(*switches(AGAIN_BEHIND_401), settles()), [-7])
 
+    def test_one_that_stays_must_come_again_within_them_too(self):
+        # No book is known that takes so many passes to settle, so fewer are allowed: its setting comes again behind 3.
+        book = [begins(8, 1, 9), para(0, digits(1), plain(6)), para(0, plain(1, 1))]
+        for most, answer in ((2, [-7]), (3, [0, 2, 11]), (4, [0, 2, 11])):
+            with self.subTest(most=most), mock.patch("truerefs.passes.MOST_PASSES", most):
+                self.assertEqual(last(*book, settles()), answer)
+
     def test_passes_are_answered_all_the_same(self):
         book = switches(AGAIN_BEHIND_401)
         given = ask(*book, settles(), pass_(0), pass_(4), pass_(5), pass_(400), settles())[len(book):]
@@ -147,7 +155,7 @@ class AgainstRealTexts(unittest.TestCase):
         kinds = {}
         for number in range(400):
             frame, paragraphs = random_book(rng)
-            calls = [begins(*frame)] + [para(begins_page, *words) for begins_page, words in paragraphs]
+            calls = book_of(frame, paragraphs)
             expected = settles_by_texts(settings_by_texts(frame, paragraphs, 60))
             with self.subTest(number=number):
                 self.assertEqual(last(*calls, settles()), expected)

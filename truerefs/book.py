@@ -1,13 +1,18 @@
 """A book, and the calls about it."""
 
 from truerefs.frame import first_frame, frame_is_allowed, frame_of
-from truerefs.lengths import NOT_KNOWN, PLAIN
-from truerefs.passes import MOST_PASSES, course_of
+from truerefs.lengths import NOT_KNOWN, TELLS_PAGE, mark_page_in, what_is_told, word_lengths
+from truerefs.passes import MOST_PASSES, course_of, lines_by, page_of_line
+from truerefs.trues import first_setting, has_too_many_tries, true_settings
+from truerefs.words import NO_MARK, PLAIN, has_mark_twice, marks_told_of, word_is_allowed, words_told
 
 BEGINS = 0
 PARA = 1
 PASS = 2
 SETTLES = 3
+LINES = 4
+SHOWN = 5
+TRUES = 6
 
 OUT_OF_RANGE = -1
 MARK_TWICE = -3
@@ -15,18 +20,6 @@ TOO_MANY = -5
 NEVER_AGAIN = -7
 
 MOST_WORDS = 200
-MOST_LENGTH = 200
-MOST_MARK = 20
-NO_MARK = 0
-
-
-class Word:
-    """What is told of a word: its length, if it's plain, else the mark that it tells of."""
-
-    def __init__(self, kind, told, own_mark):
-        self.kind = kind
-        self.told = told
-        self.own_mark = own_mark
 
 
 class Book:
@@ -57,22 +50,6 @@ class Book:
         return self.known_course
 
 
-def words_told(numbers):
-    return [Word(numbers[k], numbers[k + 1], numbers[k + 2]) for k in range(0, len(numbers), 3)]
-
-
-def word_is_allowed(word):
-    most = MOST_LENGTH if word.kind == PLAIN else MOST_MARK
-    return 1 <= word.told <= most and word.own_mark <= MOST_MARK
-
-
-def has_mark_twice(marks, words):
-    own_marks = [word.own_mark for word in words if word.own_mark != NO_MARK]
-    if len(set(own_marks)) < len(own_marks):
-        return True
-    return any([mark in marks for mark in own_marks])
-
-
 def answer_begins(book, numbers):
     frame = frame_of(numbers)
     if not frame_is_allowed(frame):
@@ -93,13 +70,6 @@ def answer_para(book, numbers):
     return [len(book.words)]
 
 
-def answer_pass(book, numbers):
-    n = numbers[0]
-    if n > MOST_PASSES:
-        return [OUT_OF_RANGE]
-    return [len(book.words)] + book.course().setting_behind(n)
-
-
 def last_page(setting):
     if len(setting) == 0:
         return NOT_KNOWN
@@ -115,16 +85,76 @@ def answer_settles(book):
     return [1, course.back, course.ring_length()]
 
 
+def pages_answered(setting):
+    return [len(setting)] + setting
+
+
+def lines_answered(book, setting):
+    lines = lines_by(book, setting)
+    first_words = [number for number, line in enumerate(lines) if number == 0 or lines[number - 1] != line]
+    answer = [len(first_words)]
+    for number in first_words:
+        line = lines[number]
+        answer.extend([number, page_of_line(book.frame, line), line % book.frame.high])
+    return answer
+
+
+def what_reference_tells(book, setting, number):
+    word = book.words[number]
+    mark_page = mark_page_in(book.marks, word.told, setting)
+    told = what_is_told(word.kind, setting[number], mark_page)
+    if told == TELLS_PAGE:
+        return [told, mark_page]
+    return [told]
+
+
+def references_answered(book, setting):
+    lengths = word_lengths(book.frame, book.words, book.marks, setting)
+    references = [number for number, word in enumerate(book.words) if word.kind != PLAIN]
+    answer = [len(references)]
+    for number in references:
+        answer.extend([number, lengths[number]])
+        answer.extend(what_reference_tells(book, setting, number))
+    return answer
+
+
+def answer_behind_passes(book, call, n):
+    if n > MOST_PASSES:
+        return [OUT_OF_RANGE]
+    setting = book.course().setting_behind(n)
+    if call == PASS:
+        return pages_answered(setting)
+    if call == LINES:
+        return lines_answered(book, setting)
+    return references_answered(book, setting)
+
+
+def answer_trues(book):
+    if has_too_many_tries(book):
+        return [TOO_MANY]
+    settings = true_settings(book)
+    if len(settings) == 0:
+        return [0]
+    return [len(settings)] + first_setting(settings)
+
+
+def answer_missing_marks(book):
+    missing = [mark for mark in marks_told_of(book.words) if mark not in book.marks]
+    return [len(missing)] + missing
+
+
 def answer_call(book, call, numbers):
     if call == BEGINS:
         return answer_begins(book, numbers)
     if call == PARA:
         return answer_para(book, numbers)
-    if call == PASS:
-        return answer_pass(book, numbers)
+    if call in (PASS, LINES, SHOWN):
+        return answer_behind_passes(book, call, numbers[0])
     if call == SETTLES:
         return answer_settles(book)
-    raise NotImplementedError(f"no call has the number {call}")
+    if call == TRUES:
+        return answer_trues(book)
+    return answer_missing_marks(book)
 
 
 def answers(calls):

@@ -38,10 +38,14 @@ def page_of_line(frame, line):
     return frame.first_page + line // frame.high
 
 
-def next_setting(book, setting):
+def lines_by(book, setting):
+    """The line of each word, being set with lengths as the setting has them."""
     lengths = word_lengths(book.frame, book.words, book.marks, setting)
-    lines = word_lines(book.frame, book.openings, lengths)
-    return [page_of_line(book.frame, line) for line in lines]
+    return word_lines(book.frame, book.openings, lengths)
+
+
+def next_setting(book, setting):
+    return [page_of_line(book.frame, line) for line in lines_by(book, setting)]
 
 
 class Course:
